@@ -49,15 +49,21 @@ func Read(m Mem, at int, size int) (int, int) {
 // Write writes bytes.
 func Write(m Mem, at int, size int, v int) (Mem, int) {
 	got := copyMem(m)
-	if fault := writeFault(m, at, size); fault != 0 {
-		return got, fault
+	fault := writeInto(&got, at, size, v)
+	return got, fault
+}
+
+// writeInto writes into a memory that the caller owns; with a fault it changes nothing.
+func writeInto(m *Mem, at int, size int, v int) int {
+	if fault := writeFault(*m, at, size); fault != 0 {
+		return fault
 	}
 	if at == Port {
-		got.Out = append(got.Out, byte(v))
+		m.Out = append(m.Out, byte(v))
 	} else {
-		putBytes(got.Ram[at-RamBase:], size, v)
+		putBytes(m.Ram[at-RamBase:], size, v)
 	}
-	return got, 0
+	return 0
 }
 
 // accessFault gives the faults that reading and writing have in common; they come ahead of all others.
